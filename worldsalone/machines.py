@@ -220,7 +220,7 @@ def of_parts(meaning, parts):
 
 
 def with_part(machine, name, part):
-    """The machine with another part."""
+    """The machine with another part, which is refused as Machine does if it is wrong."""
     parts = parts_of(machine)
     parts[name] = part
     return of_parts(machine.meaning(), parts)
@@ -243,16 +243,12 @@ def answered(machine, port, word):
     answers = machine.answers()
     if not is_key_of(port, answers):
         raise UnknownName(port)
-    if not machine.meaning().is_word(word):
-        raise BadMachine("answers")
     answers[port] = put_in(answers[port], machine.count(), word)
     return with_part(machine, "answers", answers)
 
 
 def arrived(machine, line):
     """The machine with a line that arrives at its present count."""
-    if not machine.meaning().is_word(line):
-        raise BadMachine("arrivals")
     return with_part(machine, "arrivals", put_in(machine.arrivals(), machine.count(), line))
 
 
@@ -260,8 +256,6 @@ def poked(machine, frame, place, word):
     """The machine with another word at a place of a frame."""
     frames = machine.frames()
     check_cell(frames, frame, place)
-    if not machine.meaning().is_word(word):
-        raise BadMachine("frames")
     frames[frame][place] = word
     return with_part(machine, "frames", frames)
 

@@ -61,10 +61,8 @@ def ref_text(ref):
 
 
 def ref_of(text):
-    """The ref that stands in a line, or None; its number may be too great."""
-    word = REF_WORDS.get(text[:1], None)
-    number = number_of(text[1:])
-    return None if word is None or number is None else (word, number)
+    """The ref that stands in a line, a wrong one if the text is not that of a ref."""
+    return (REF_WORDS.get(text[:1], None), number_of(text[1:]))
 
 
 def row_line(row):
@@ -91,7 +89,7 @@ def row_lines(rows):
 
 
 def row_of(members):
-    """The row of a line that begins as one, an if without rows inside, or None; its names may be unknown."""
+    """The row of a line that begins as one, an if without rows inside; a wrong row if the line is not that of a row."""
     row = [members[0]]
     rest = members[1:]
     for kind in ROW_FORMS[members[0]]:
@@ -100,18 +98,17 @@ def row_of(members):
         elif kind == "args":
             row.append(tuple([ref_of(text) for text in rest]))
             rest = []
-        elif rest == []:
-            return None
         else:
-            text = rest.pop(0)
-            row.append(ref_of(text) if kind == "ref" else text)
-    return tuple(row) if rest == [] else None
+            row.extend([ref_of(text) if kind == "ref" else text for text in rest[:1]])
+            rest = rest[1:]
+    # A member too many is left here, and makes the row too long.
+    return tuple(row + rest)
 
 
 def read_row(lines, known):
     """Reads the next line as that of a row; the text is refused there if it is none."""
-    row = row_of(lines.members()) if lines.head() in ROW_FORMS else None
-    if row is None or first_wrong_in_rows(known, (row,), ()) is not None:
+    row = row_of(lines.members()) if lines.head() in ROW_FORMS else ()
+    if first_wrong_in_rows(known, (row,), ()) is not None:
         raise BadText(lines.place())
     lines.skip()
     return row

@@ -1,10 +1,9 @@
 """A book, meanings, machines and hosts for the tests of hosts."""
 
-from samples import A, B, C, T0, T1, some_specials
+from samples import A, B, C, T0, T1, made, some_specials
 from worldsalone.bare import Box
 from worldsalone.books import Book
 from worldsalone.host import Host
-from worldsalone.machines import Machine
 from worldsalone.mappings import first_untrue
 from worldsalone.meanings import Meaning
 
@@ -82,21 +81,8 @@ def machine_of(*names, table=(1, 2, 3, 4), frames=(), registers=(0, 0, 0, 0), me
     """A machine with the table in frame 0, these instructions in frame 1, and five further frames, these ones first."""
     contents = [words_of(*table), words_of(*names)] + [list(frame) for frame in frames]
     contents += [[len(contents) + k] * 8 for k in range(7 - len(contents))]
-    parts = {
-        "frames": contents,
-        "registers": list(registers),
-        "pc": pc,
-        "specials": some_specials(**told.pop("specials", {})),
-        "is_out": False,
-        "lines": (),
-        "outs": {"tty": [], "net": []},
-        "answers": {"tty": [], "net": []},
-        "arrivals": [],
-        "count": 0,
-    }
-    assert not set(told) - set(parts), told
-    parts.update(told)
-    return Machine(meaning, *parts.values())
+    specials = some_specials(**told.pop("specials", {}))
+    return made(meaning, frames=contents, registers=list(registers), pc=pc, specials=specials, **told)
 
 
 def box_of_frames(many=12, meaning=MEANING, **specials):

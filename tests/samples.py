@@ -1,7 +1,7 @@
 """Books, meanings and machines for the tests."""
 
 from worldsalone.books import Book
-from worldsalone.machines import Machine
+from worldsalone.machines import Machine, parts_of
 from worldsalone.meanings import Meaning
 
 NAMES = ("mode", "table", "handler", "enabled", "timer", "cause", "back", "was", "fault")
@@ -82,18 +82,7 @@ def going(user, system=None, operands=3, code=(0, 1, 2), **told):
 
 def with_changes(machine, **told):
     """A machine that differs in these parts alone; specials are those that differ."""
-    parts = {
-        "frames": machine.frames(),
-        "registers": machine.registers(),
-        "pc": machine.pc(),
-        "specials": machine.specials(),
-        "is_out": machine.is_out(),
-        "lines": machine.lines(),
-        "outs": machine.outs(),
-        "answers": machine.answers(),
-        "arrivals": machine.arrivals(),
-        "count": machine.count(),
-    }
+    parts = parts_of(machine)
     assert not set(told) - set(parts), told
     specials = dict(parts["specials"], **told.pop("specials", {}))
     parts.update(told)

@@ -61,6 +61,17 @@ class Making(unittest.TestCase):
         self.assertEqual(box.specials(), some_specials(was=4))
         self.assertIs(host.box(), box)
 
+    def test_a_box_that_a_bare_step_left_in_another_mode(self):
+        box = box_of_frames()
+        box.poke(0, 0, 14)
+        box.bare({0: (0, "x")}, [3, 5, 0, 0], 0)
+        self.assertEqual(box.special("mode"), 3)
+        with self.assertRaises(UnknownName):
+            Host(box, [0, 1, 2, 3], ["nope"])
+        self.assertEqual(box.special("mode"), 3)
+        Host(box, [0, 1, 2, 3], [])
+        self.assertEqual(box.specials(), some_specials(table=5))
+
     def test_frames_of_the_box_that_are_not_the_hosts(self):
         host = host_of(machine_of("inc", "st", registers=(5, 9, 0, 0)), frames=(2, 4, 6, 8))
         stepped(host, 0, 6)

@@ -1,5 +1,6 @@
 """Terms, questions and branches: S6.2 to S6.4, and the interface of worldsalone/questions.py."""
 
+import itertools
 import random
 import unittest
 
@@ -366,6 +367,18 @@ class Impossible(unittest.TestCase):
         self.check(True, full, Book(3, PRIMITIVES, ["oops"], PORTS, [("go", 4, rows, rows)]))
         self.check(False, full, Book(4, PRIMITIVES, ["oops"], PORTS, [("go", 4, rows, rows)]))
         self.check(False, [same(0, 1)], Book(1, PRIMITIVES, ["oops"], PORTS, [("go", 4, rows, rows)]))
+
+    def test_answers_of_same_for_all_ways_to_tell_registers(self):
+        rows = (("move", A, B),)
+        pairs = [(0, 1), (0, 2), (1, 2), (0, 3), (1, 3), (2, 3)]
+        for registers in (1, 2, 3):
+            book = Book(registers, PRIMITIVES, ["oops"], PORTS, [("go", 4, rows, rows)])
+            ways = list(itertools.product(range(registers), repeat=4))
+            for told in itertools.product((None, "yes", "no"), repeat=len(pairs)):
+                asked = [(pair, answer) for pair, answer in zip(pairs, told) if answer is not None]
+                can_be = any(all((way[i] == way[j]) == (answer == "yes") for (i, j), answer in asked) for way in ways)
+                branch = [same(i, j, answer) for (i, j), answer in asked]
+                self.assertIs(stands(book, "go", "user", branch, ("equal", ZERO, ZERO)), can_be, (registers, branch))
 
     def test_different_rights_of_equal_terms(self):
         for right in ("r", "w"):

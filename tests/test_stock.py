@@ -503,12 +503,22 @@ class Refusals(unittest.TestCase):
             call = self.calls(self.stock)[name]
             for place in ODD + (4, 10 ** 30, "0", (0,), ("copy", 1)):
                 self.refuse(NotThere, "number", place, lambda: call(0, 0, place))
+                self.refuse(NotThere, "number", place, lambda: call(1, 1, place))
                 frame = 3
                 self.refuse(NotThere, "number", frame, lambda: call(0, frame, place))
                 w = 2
                 self.refuse(UnknownWorld, "number", w, lambda: call(w, frame, place))
         place = 4
         self.refuse(NotThere, "number", place, lambda: self.stock.read(0, ("copy", 1), place))
+
+    def test_places_of_a_shared_frame(self):
+        stock = shared()[1]
+        before = state(stock)
+        for place in ODD + (4,):
+            for w in (0, 1):
+                self.refuse(NotThere, "number", place, lambda: stock.write(w, 0, place, 5))
+                self.refuse(NotThere, "number", place, lambda: stock.read(w, 0, place))
+        self.assertEqual(state(stock), before)
 
     def test_any_list_where_a_copy_is_refused(self):
         for thing in ([], [None], [99] * 20, [[]]):

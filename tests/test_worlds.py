@@ -29,6 +29,13 @@ class Alone(unittest.TestCase):
         self.assertEqual(alone(machine, 0, [("step", 0)] * 5), run(machine, 5)[0])
         self.assertEqual(alone_told(machine, 0, [("step", 0)] * 5), [("done",)] * 5)
 
+    def test_worlds_with_numbers_that_are_no_words(self):
+        machine = machine_of()
+        for w in (16, 99):
+            choices = [("step", w), ("answer", w, "tty", 5), ("step", w)]
+            self.assertEqual(alone(machine, w, choices).outs()["tty"], [0, 5])
+            self.assertEqual(alone_told(machine, w, choices), [("done",)] * 2)
+
     def test_what_steps_tell(self):
         machine = going((("trap", "help"),), specials=some_specials(handler=1))
         choices = [("step", 4)] * 3

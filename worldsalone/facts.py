@@ -15,18 +15,24 @@ TOUCHES = ("r", "w")
 QUESTION_LENGTHS = {"same": 3, "equal": 3, "allowed": 3, "cell": 2}
 
 
+def longer_ways(way, k, registers):
+    """The ways that add operand k to a way: it tells a register of the way, or the next one if there is one."""
+    used = len({way[other] for other in way})
+    return [{**way, k: told} for told in range(min(registers, used + 1))]
+
+
+def is_as_told(way, sames):
+    """Whether a way is as answers (i, j, is_same) say, as far as it has the operands."""
+    return all([(way[i] == way[j]) == is_same for i, j, is_same in sames if i in way and j in way])
+
+
 def can_be_told(registers, sames):
-    """Whether operands can tell so many registers as answers (i, j, is_same), i less than j, say."""
-    operands = sorted({k for i, j, _ in sames for k in (i, j)})
-    # Each way gives the operands so far numbers of registers, a new register always the next number.
+    """Whether operands can tell so many registers as answers (i, j, is_same) say."""
+    # Each way is a dict from operands to the numbers of their registers, in the order in which they come.
     ways = [{}]
-    for k in operands:
-        longer = []
-        for way in ways:
-            choices = min(registers, len({way[other] for other in way}) + 1)
-            longer.extend([{**way, k: told} for told in range(choices)])
-        due = [(i, is_same) for i, j, is_same in sames if j == k]
-        ways = [way for way in longer if all([(way[i] == way[k]) == is_same for i, is_same in due])]
+    for k in sorted({told for i, j, _ in sames for told in (i, j)}):
+        longer = [added for way in ways for added in longer_ways(way, k, registers)]
+        ways = [way for way in longer if is_as_told(way, sames)]
     return ways != []
 
 
@@ -130,7 +136,7 @@ class Facts:
         if kind == "equal":
             return self._setting.may_occur(thing[2], self._known)
         if kind == "allowed":
-            return isinstance(thing[2], str) and thing[2] in TOUCHES
+            return thing[2] in TOUCHES
         return any(["yes" in self.rights_told(thing[1], right) for right in TOUCHES])
 
     def answers(self, question):

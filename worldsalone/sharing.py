@@ -31,4 +31,4 @@ def share_alike(stock):
             stock.unite(group[0], others)
             freed.extend(others)
             joined.append(group[0])
-    return (sorted(freed), sorted(joined))
+    return (sorted(freed), joined)

@@ -3,6 +3,7 @@
 import random
 import unittest
 
+from hostmodel import ModelHost
 from hosts import BOOK, CODE, DOUBTED, ENTRIES, MEANING, NO_STOP, TABLES, entries, stock_of, untrue
 from samples import some_specials
 from worldsalone.bare import Box
@@ -159,6 +160,35 @@ class Drawn(unittest.TestCase):
 
     def test_closed_frames(self):
         self.histories(RIGHT_NO_STOP, ["inc"], range(200, 225))
+
+    def test_against_a_host_told_once_more(self):
+        """Where all frames lie, all entries and all counts, behind each choice."""
+        for seed in range(600, 660):
+            draw = random.Random(seed)
+            meaning = draw.choice((RIGHT, RIGHT, RIGHT_NO_STOP))
+            doubted = draw.choice(([], ["inc", "st", "ld"], ["nop", "jmp"]))
+            frames = draw.sample(range(9), draw.choice((4, 4, 5, 8)))
+            host = Host(Box(meaning, [[30] * 8 for _ in range(9)], some_specials(), {"tty": [], "net": []}), frames, doubted)
+            model = ModelHost(meaning, frames, doubted)
+            for _ in range(draw.choice((1, 2, 3))):
+                machine = drawn_machine(draw, meaning)
+                self.assertEqual(host.open_world(machine), model.open_world(machine))
+            for _ in range(60):
+                choice = ("close", 0) if draw.random() < 0.005 else drawn_choice(draw, host)
+                if can_do(host, choice):
+                    self.assertEqual(host.do(choice), model.do(choice), (seed, choice))
+                    self.compare(host, model, (seed, choice))
+
+    def compare(self, host, model, told):
+        self.assertEqual(host.worlds(), sorted(model.worlds), told)
+        self.assertEqual((stock_of(host).full(), stock_of(host).free()), (model.stock.full, model.stock.free()), told)
+        for w, world in model.worlds.items():
+            self.assertEqual(host.counts(w), tuple(world.counts), told)
+            self.assertEqual(entries(host, w), world.entries, told)
+            self.assertEqual(host.copies(w).copied() + host.copies(w).closed(), sorted(world.patched), told)
+            self.assertEqual(host.machine(w), model.machine(w), told)
+            for frame in range(model.stock.sizes[w]):
+                self.assertEqual(host.where(w, frame), model.stock.where((w, frame)), told)
 
     def test_the_log_replays_the_worlds(self):
         for seed in range(300, 306):

@@ -89,6 +89,18 @@ INTERFACE = {
         "stands": "book name mode branch question", "answers": "book name mode branch question",
         "compared": "book name mode branch term other",
     },
+    "walks": {
+        "verdict": "book name mode branch",
+    },
+    "deciding": {
+        "decide_mode": "book name mode", "decide": "book", "is_right": "book name mode",
+    },
+    "papers": {
+        "first_wrong": "book name mode paper", "judge_papers": "book papers",
+    },
+    "starts": {
+        "judge_start": "book name mode start",
+    },
     "worlds": {
         "alone": "machine w choices", "alone_told": "machine w choices",
     },
@@ -96,7 +108,7 @@ INTERFACE = {
 
 STATEMENTS = (
     ast.FunctionDef, ast.ClassDef, ast.Return, ast.Assign, ast.AugAssign, ast.For, ast.While, ast.If, ast.Raise,
-    ast.ImportFrom, ast.Expr, ast.Pass, ast.Break, ast.Continue, ast.Delete,
+    ast.ImportFrom, ast.Expr, ast.Pass, ast.Break, ast.Continue, ast.Delete, ast.Try,
 )
 EXPRESSIONS = (
     ast.BoolOp, ast.BinOp, ast.UnaryOp, ast.IfExp, ast.Dict, ast.ListComp, ast.DictComp, ast.SetComp, ast.Compare, ast.Call,
@@ -105,14 +117,14 @@ EXPRESSIONS = (
 )
 BUILTINS = (
     "len range enumerate zip min max sum abs sorted reversed int str bool list tuple dict set isinstance ord repr"
-    " any all divmod ValueError LookupError"
+    " any all divmod Exception ValueError LookupError"
 ).split()
 METHODS = (
     "append clear copy count endswith extend find get index insert items join keys ljust lower lstrip partition pop"
     " remove replace reverse rfind rjust rstrip setdefault split startswith strip update upper values zfill"
 ).split()
 ATTRIBUTES = (
-    "name word path place limit number machine_kept entries patched steps fills emulations"
+    "name word path place limit number machine_kept entries patched steps fills emulations question draft outcome"
 ).split()
 BARRED = (
     "register mro elements open input law type typing enum Enum Flag Generic Protocol ABC namedtuple NamedTuple"
@@ -224,6 +236,18 @@ class Files(unittest.TestCase):
                     self.assertIn(node.id, BUILTINS, name)
             for told in bound_at_top(tree) + local_names(tree):
                 self.assertFalse(hasattr(builtins, told), (name, told))
+
+    def test_handlers_name_own_errors(self):
+        found = trees()
+        own = [node.name for tree in found.values() for node in ast.walk(tree) if isinstance(node, ast.ClassDef)]
+        for name, tree in found.items():
+            for node in ast.walk(tree):
+                if isinstance(node, ast.ExceptHandler):
+                    self.assertIn(getattr(node.type, "id", None), own, (name, node.lineno))
+                if isinstance(node, ast.Raise):
+                    self.assertIn(node.exc.func.id, own, (name, node.lineno))
+                if isinstance(node, ast.Try):
+                    self.assertEqual((node.orelse, node.finalbody), ([], []), (name, node.lineno))
 
     def test_names(self):
         found = trees()

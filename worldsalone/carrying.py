@@ -1,4 +1,4 @@
-"""How an instruction is carried out on a draft, for machines and boxes alike.
+"""How rows are carried out on a draft: on one of words for machines and boxes, on one of terms for walks.
 
 The function of each row returns None, or the end to which the row brings the instruction.
 """
@@ -12,7 +12,7 @@ def carry_move(draft, row):
 def carry_prim(draft, row):
     """("prim", d, name, args)"""
     values = tuple([draft.value(ref) for ref in row[3]])
-    draft.assign(row[1], draft.meaning().apply(row[2], values))
+    draft.assign(row[1], draft.apply(row[2], values))
 
 
 def carry_load(draft, row):
@@ -86,7 +86,7 @@ def carry_rows(draft, rows):
     while waiting != []:
         row = waiting.pop()
         if row[0] == "if":
-            chosen = row[3] if draft.value(row[1]) == 0 else row[2]
+            chosen = row[3] if draft.is_zero(row[1]) else row[2]
             waiting.extend(list(reversed(chosen)))
             continue
         carry = CARRY[row[0]]

@@ -12,6 +12,14 @@ class Classes:
         self._class_of = []
         self._prims = []
 
+    def twin(self):
+        """Another one with the same terms; what is met or joined in one later changes nothing in the other."""
+        other = Classes()
+        other._numbers = {key: self._numbers[key] for key in self._numbers}
+        other._class_of = list(self._class_of)
+        other._prims = list(self._prims)
+        return other
+
     def number(self, term):
         """The number of a term."""
         # A term can be nested deeper than a key may be, so arguments stand in keys by their numbers.
@@ -31,6 +39,14 @@ class Classes:
     def class_of(self, number):
         """What is the same just for numbers of equal terms, until terms are joined."""
         return self._class_of[number]
+
+    def all_classes(self):
+        """The ascending list of the classes of all terms that were met."""
+        return sorted(set(self._class_of))
+
+    def all_prims(self):
+        """The list of the tuples (name, classes of the arguments, class) of the primitives that were met."""
+        return [self._sign(key) + (self._class_of[number],) for number, key in self._prims]
 
     def join(self, one, other):
         """Makes the terms with two numbers equal, and all terms that are equal because of this."""

@@ -72,6 +72,14 @@ class Draft:
         else:
             self._registers[self._operands[number]] = value
 
+    def is_zero(self, ref):
+        """Whether a ref stands for the word 0."""
+        return self.value(ref) == 0
+
+    def apply(self, name, values):
+        """The word that a primitive gives for a tuple of words."""
+        return self._meaning.apply(name, values)
+
     def cell_at(self, address, right):
         """The pair (frame, place) to which an address comes for a right, or None."""
         return self._ways.cell_at(address, right)

@@ -44,22 +44,37 @@ class Setting:
     def __init__(self, book, name, mode):
         _, operands, user, system = book.instruction(name)
         ports = book.ports()
+        self._book = book
+        self._name = name
         self._operands = operands
-        self._is_user = mode == "user"
-        self._registers = book.registers()
+        self._in_user_mode = mode == "user"
+        self._rows = {"box": user, "world": user if mode == "user" else system}
         self._arities = {told: arity for told, arity in book.primitives()}
-        self._in_rows = {
-            "box": in_rows_of(user, ports),
-            "world": in_rows_of(user if self._is_user else system, ports),
-        }
+        self._in_rows = {who: in_rows_of(self._rows[who], ports) for who in ("box", "world")}
+
+    def book(self):
+        """The book."""
+        return self._book
+
+    def name(self):
+        """The name of the instruction."""
+        return self._name
 
     def is_user(self):
         """Whether the mode is "user"."""
-        return self._is_user
+        return self._in_user_mode
 
-    def registers(self):
-        """The number of registers of the book."""
-        return self._registers
+    def operands(self):
+        """The number of operands of the instruction."""
+        return self._operands
+
+    def rows(self, who):
+        """The rows of "box" or "world"."""
+        return self._rows[who]
+
+    def in_rows(self, who):
+        """The dict from the ports to the numbers of their in rows in the rows of "box" or "world"."""
+        return {port: self._in_rows[who][port] for port in self._in_rows[who]}
 
     def has_operand(self, thing):
         """Whether a thing is the number of an operand of the instruction."""

@@ -101,6 +101,32 @@ INTERFACE = {
     "starts": {
         "judge_start": "book name mode start",
     },
+    "careful": {
+        "sound_list": "book", "careful_choice": "host w", "careful_step": "host w",
+    },
+    "nested": {
+        "WorldBox": "host w",
+        "WorldBox.meaning": "", "WorldBox.frames": "", "WorldBox.specials": "", "WorldBox.answers": "",
+        "WorldBox.outs": "", "WorldBox.peek": "frame place", "WorldBox.poke": "frame place word",
+        "WorldBox.special": "name", "WorldBox.set_special": "name word", "WorldBox.give": "port word",
+        "WorldBox.bare": "mapping registers pc",
+        "together": "host w mapping", "ways": "host w", "depth": "box",
+    },
+    "saved": {
+        "saved_machine": "machine", "restored_machine": "meaning data", "packed": "data", "unpacked": "meaning numbers",
+        "difference": "early late", "applied": "meaning early changes", "joined": "first last", "saved": "host world",
+        "restored": "host data",
+    },
+    "moving": {
+        "Moving": "host world other", "Moving.due": "", "Moving.send": "many", "Moving.sendings": "", "Moving.finish": "",
+        "moved": "host world other pace most rounds",
+    },
+    "logs": {
+        "Log": "machine", "Log.answer": "port word count", "Log.arrive": "line count", "Log.start": "",
+        "Log.entries": "", "Log.machine_at": "count", "Log.__eq__": "other",
+        "log_of": "host world", "replayed": "host log count", "holds": "machine watch",
+        "first_when": "log watch limit", "last_change": "log frame place count", "apart_at": "one other limit",
+    },
     "worlds": {
         "alone": "machine w choices", "alone_told": "machine w choices",
     },
@@ -124,7 +150,7 @@ METHODS = (
     " remove replace reverse rfind rjust rstrip setdefault split startswith strip update upper values zfill"
 ).split()
 ATTRIBUTES = (
-    "name word path place limit number machine_kept entries patched steps fills emulations question draft outcome"
+    "name word path place limit number machine_kept mapped patched steps fills emulations question draft outcome"
 ).split()
 BARRED = (
     "register mro elements open input law type typing enum Enum Flag Generic Protocol ABC namedtuple NamedTuple"

@@ -78,7 +78,7 @@ class Host:
 
     def mapping(self, w):
         """A twin of the mapping of a world."""
-        return self._hosting.hosted(w).entries.twin()
+        return self._hosting.hosted(w).mapped.twin()
 
     def copies(self, w):
         """A twin of the copies of a world."""

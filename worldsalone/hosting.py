@@ -16,7 +16,7 @@ class Hosted:
     def __init__(self, machine, doubted):
         # The frames of this machine are not looked at: their words lie in the stock.
         self.machine_kept = machine
-        self.entries = Mapping()
+        self.mapped = Mapping()
         self.patched = Copies(machine.meaning(), doubted)
         self.steps = 0
         self.fills = 0
@@ -67,7 +67,7 @@ class Hosting:
         kept = hosted.machine_kept
         hosted.machine_kept = machine
         if kept.special("table") != machine.special("table") or kept.is_user() != machine.is_user():
-            hosted.entries.fall_all()
+            hosted.mapped.fall_all()
 
     def bring(self, w, frame, is_writing, kept):
         """Brings a frame or a copy and returns its frame of the box."""
@@ -82,7 +82,7 @@ class Hosting:
     def share(self):
         """Shares alike frames and returns the number of frames of the box that became free."""
         freed, joined = share_alike(self._stock)
-        mappings = [self._hosted[w].entries for w in self._hosted]
+        mappings = [self._hosted[w].mapped for w in self._hosted]
         for mapping in mappings:
             for g in freed:
                 mapping.fall_by_box_frame(g)
@@ -97,7 +97,7 @@ class Hosting:
 
     def note_written(self, w, frame, place):
         """Lets fall and end what rests on a cell of a world that has another word now."""
-        self.hosted(w).entries.fall_by_cell((frame, place))
+        self.hosted(w).mapped.fall_by_cell((frame, place))
         self._end_copy(w, frame)
 
     def page_frame(self, w, page):
@@ -115,7 +115,7 @@ class Hosting:
             self._stock.make_copy(w, frame, words)
         where = self._stock.where(w, frame)
         if where[0] != "out":
-            self.hosted(w).entries.fall_by_box_frame(where[1])
+            self.hosted(w).mapped.fall_by_box_frame(where[1])
 
     def unpatch(self, w, page):
         """Ends the copy or the closing of the frame of a page."""
@@ -123,7 +123,7 @@ class Hosting:
 
     def drop(self, w):
         """Lets all entries of a world fall."""
-        self.hosted(w).entries.fall_all()
+        self.hosted(w).mapped.fall_all()
 
     def close(self, w):
         """Closes a world."""
@@ -133,7 +133,7 @@ class Hosting:
     def _fall_by(self, moves):
         """Lets the entries fall that lead to where frames of their worlds have left."""
         for w, _, g in moves:
-            self._hosted[w].entries.fall_by_box_frame(g)
+            self._hosted[w].mapped.fall_by_box_frame(g)
 
     def _end_copy(self, w, frame):
         """Ends the copy or the closing of a frame, if there is one."""

@@ -52,7 +52,7 @@ def fill(hosting, w, filled, access, address, right):
     if not hosting.stock().can_bring(w, brought, is_writing, kept):
         return False
     g = hosting.bring(w, brought, is_writing, kept)
-    hosted.entries.widen(hosting.box().meaning().page(address), g, right, cell)
+    hosted.mapped.widen(hosting.box().meaning().page(address), g, right, cell)
     hosted.fills += 1
     filled[brought] = g
     return True
@@ -61,7 +61,7 @@ def fill(hosting, w, filled, access, address, right):
 def bare_step(hosting, w, machine):
     """Makes a bare step for a world with its mapping as it is, and returns its end."""
     box = hosting.box()
-    end = box.bare(hosting.hosted(w).entries.as_dict(), machine.registers(), machine.pc())
+    end = box.bare(hosting.hosted(w).mapped.as_dict(), machine.registers(), machine.pc())
     box.set_special("mode", 0)
     return end
 

@@ -3,6 +3,7 @@
 from samples import A, B, C, T0, T1, made, some_specials
 from worldsalone.bare import Box
 from worldsalone.books import Book
+from worldsalone.errors import BadChoice
 from worldsalone.host import Host
 from worldsalone.mappings import first_untrue
 from worldsalone.meanings import Meaning
@@ -96,6 +97,19 @@ def host_of(*machines, frames=range(12), doubted=DOUBTED, meaning=MEANING):
     for machine in machines:
         host.open_world(machine)
     return host
+
+
+class WornHost(Host):
+    """A host whose worlds can be stepped only a few times."""
+
+    left = 3
+
+    def do(self, choice):
+        """Refuses steps when they are used up."""
+        self.left -= choice[0] == "step"
+        if self.left < 0:
+            raise BadChoice()
+        return Host.do(self, choice)
 
 
 def stepped(host, w, many=1):

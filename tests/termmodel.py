@@ -199,3 +199,59 @@ class Branch:
         if box_end[0] != world_end[0] or (both_done and is_used) or any(self.unlike(*pair) for pair in pairs):
             return ("wrong", None)
         return ("open", [("equal", *pair) for pair in pairs if not self.equal(*pair)][0])
+
+
+class Follower:
+    """A start, with the words of terms in it, and the answers that it follows."""
+
+    def __init__(self, mode, start):
+        self.meaning, self.machine, self.box, self.given = start
+        self.table = self.machine.special("table")
+        self.cells = [self.place(self.machine.pc(), "x")]
+        self.operands = self.meaning.code_of(self.machine.word(*self.cells[0]))[1]
+
+    def place(self, address, right):
+        """The place to which an address comes, or None."""
+        page, place = divmod(address, self.meaning.places())
+        entry = self.meaning.entry(self.machine.word(self.table, page))
+        return (entry[0], place) if entry is not None and right in entry[2] else None
+
+    def word(self, term):
+        """The word for which a term stands."""
+        kind = term[0]
+        pc = self.machine.pc()
+        told = {"zero": 0, "pc": pc, "next": self.meaning.next(pc)}
+        if kind in told:
+            return told[kind]
+        if kind == "operand":
+            return self.machine.registers()[self.operands[term[1]]]
+        if kind == "special":
+            return self.machine.special(term[1])
+        if kind == "box":
+            return self.box[term[1]]
+        if kind == "cell":
+            return self.machine.word(*self.cells[term[1]])
+        if kind == "prim":
+            return self.meaning.apply(term[1], tuple(self.word(arg) for arg in term[2]))
+        _, who, port, k = term
+        ready = [word for count, word in self.machine.answers()[port] if count <= self.machine.count()]
+        words = self.given[port] if who == "box" else ready
+        return words[k] if k < len(words) else 0
+
+    def answer(self, question):
+        """The answer of a question; a further cell is known behind it."""
+        kind = question[0]
+        if kind == "cell":
+            address = self.word(question[1])
+            place = self.place(address, "r") or self.place(address, "w")
+            if place in self.cells:
+                return self.cells.index(place)
+            self.cells.append(place)
+            return "further"
+        if kind == "same":
+            is_so = self.operands[question[1]] == self.operands[question[2]]
+        elif kind == "equal":
+            is_so = self.word(question[1]) == self.word(question[2])
+        else:
+            is_so = self.place(self.word(question[1]), question[2]) is not None
+        return "yes" if is_so else "no"

@@ -5,11 +5,12 @@ import unittest
 
 from hosts import BOOK, DOUBTED, HELP, MEANING, NO_STOP, host_of, machine_of, untrue, whole
 from samples import A, ODD, T0, assert_new, some_specials, with_changes
-from test_host_drawn import drawn_choice, drawn_machine
+from drawnhosts import drawn_choice, drawn_machine
 from worldsalone.bare import Box
 from worldsalone.books import Book
 from worldsalone.careful import careful_choice, careful_step, sound_list
 from worldsalone.choices import can_do
+from worldsalone.deciding import is_right
 from worldsalone.errors import UnknownWorld
 from worldsalone.host import Host
 from worldsalone.machines import Machine
@@ -37,8 +38,11 @@ class SoundList(unittest.TestCase):
         self.assertEqual(sound_list(self.book(system)), ["system"])
         self.assertEqual(sound_list(self.book(good, user, trapped, system, unlike)), ["user", "system", "unlike"])
         self.assertEqual(sound_list(self.book(unlike, system, good, user)), ["unlike", "system", "user"])
-        # User rows are carried out in user mode by both, so only those for system mode can differ.
         self.assertEqual(sound_list(self.book(("other", 1, (), OUT), trapped)), ["other"])
+        # This one is wrong for user mode alone: there the machine looks at its own special.
+        looks = (("get", T0, "was"), ("if", T0, HELP, ()))
+        self.assertEqual(sound_list(self.book(("looks", 1, looks, ()), ("late", 1, looks, looks))), ["looks", "late"])
+        self.assertEqual([is_right(self.book(("looks", 1, looks, ())), "looks", mode) for mode in ("user", "system")], [False, True])
 
     def test_a_book_without_instructions(self):
         self.assertEqual(sound_list(Book(1, [], [], [], [])), [])

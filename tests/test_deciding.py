@@ -7,7 +7,7 @@ from drawing import drawn_book, drawn_question
 from hosts import BOOK, DOUBTED
 from samples import A, B, C, CAUSES, NAMES, ODD, PORTS, PRIMITIVES, T0, T1, TABLES, assert_new, made, one_book
 from samples import some_specials, spoil
-from termmodel import Branch
+from termmodel import Branch, Follower
 from worldsalone.books import Book
 from worldsalone.deciding import decide, decide_mode, is_right
 from worldsalone.errors import UnknownName
@@ -276,11 +276,80 @@ class Drawn(Deciding):
                 if told == "open" and stands(book, "go", mode, branch, question):
                     branch.append((question, draw.choice(answers(book, "go", mode, branch, question) + ["yes"] * (question[0] != "cell"))))
             if told == "wrong":
-                self.assertEqual(verdict(book, "go", mode, branch), "wrong")
-                start = start_at(facts_at(book, "go", mode, branch))
-                self.assertIsNone(judge_start(book, "go", mode, start), (seed, branch))
+                self.built(book, mode, branch)
                 built += 1
         self.assertGreater(built, 150)
+
+    def built(self, book, mode, branch):
+        """Checks the start that is built from a wrong branch by the words of S6.8."""
+        self.assertEqual(verdict(book, "go", mode, branch), "wrong", branch)
+        start = start_at(facts_at(book, "go", mode, branch))
+        self.assertIsNone(judge_start(book, "go", mode, start), branch)
+        follower = Follower(mode, start)
+        for question, answer in branch:
+            self.assertEqual(follower.answer(question), answer, (question, branch))
+        model = Branch(book, "go", mode, branch)
+        terms = self.terms(book, model)
+        for k, one in enumerate(terms):
+            for other in terms[:k]:
+                self.assertEqual(follower.word(one) == follower.word(other), model.equal(one, other), (one, other, branch))
+        machine = start[1]
+        self.assertNotIn(machine.special("table"), [frame for frame, _ in follower.cells])
+        self.assertEqual((machine.lines(), machine.is_out(), machine.arrivals()), ((), False, []))
+        # Only 0, the pc and the next address may lie on one page.
+        asked = [question[1] for question, _ in branch if question[0] in ("allowed", "cell")]
+        words = {follower.word(term) for term in asked}
+        own = {0, machine.pc(), start[0].next(machine.pc())}
+        pages = [start[0].page(word) for word in words - own] + sorted({start[0].page(word) for word in own})
+        self.assertEqual(len(pages), len(set(pages)), branch)
+
+    def terms(self, book, model):
+        """All terms that stand in a start, and those of the branch."""
+        found = [("zero",), ("pc",), ("next",)] + [("operand", i) for i in range(model.operands)]
+        found += [(word, name) for word in ("special", "box") for name in NAMES] + [("cell", k) for k in range(model.known)]
+        for who, rows in (("box", model.user), ("world", model.user if model.mode == "user" else model.system)):
+            waiting, many = list(rows), {port: 0 for port in PORTS}
+            while waiting:
+                row = waiting.pop()
+                if row[0] == "in":
+                    found.append(("answer", who, row[2], many[row[2]]))
+                    many[row[2]] += 1
+                waiting += [*row[2], *row[3]] if row[0] == "if" else []
+        return list(dict.fromkeys(found + model.terms))
+
+    def test_starts_where_the_address_0_comes_to_the_cell_of_the_pc(self):
+        """There the pc has place 0, and the next address lies on its page, also where it comes to a cell."""
+        o0, o1, zero, pc, behind = ("operand", 0), ("operand", 1), ("zero",), ("pc",), ("next",)
+        book = one_book((("load", A, B),), (), 2)
+        apart = [(("same", 0, 1), "no")]
+        first = [(("allowed", zero, "r"), "yes"), (("cell", zero), 0)]
+        next_told = [(("allowed", behind, "r"), "yes"), (("cell", behind), "further")]
+        loaded = [(("allowed", o1, "r"), "yes"), (("cell", o1), 1)]
+        unlike = [(("equal", ("cell", 1), o0), "no")]
+        for start in (
+            first + next_told + [(("equal", o1, behind), "yes")],
+            next_told + first + loaded,
+            first + [(("equal", zero, pc), "yes")] + next_told + loaded,
+            [(("equal", zero, pc), "yes"), (("equal", o1, behind), "yes")] + next_told,
+            first + [(("allowed", o1, "r"), "yes"), (("cell", o1), "further")],
+            first + next_told + [(("equal", behind, ("special", "table")), "yes")] + loaded,
+            first + [(("equal", pc, ("special", "table")), "yes")] + next_told + loaded,
+            [(("equal", behind, zero), "yes"), (("equal", pc, ("special", "table")), "yes")] + next_told + loaded,
+            next_told + [(("allowed", pc, "r"), "no")] + loaded,
+            next_told + [(("allowed", zero, "r"), "yes"), (("cell", zero), 1)] + loaded,
+            next_told + [(("allowed", zero, "w"), "yes"), (("cell", zero), "further")] + loaded,
+        ):
+            for mode in MODES:
+                branch = apart + start + unlike
+                other = book if mode == "system" else one_book((("load", A, B), ("get", T0, "was"), ("put", "was", A)), operands=2)
+                if mode == "user":
+                    branch = branch + [(("equal", ("cell", 1), ("box", "was")), "no")]
+                self.built(other, mode, branch)
+        loaded = [(("allowed", o1, "r"), "yes"), (("cell", o1), 0)]
+        self.built(book, "system", apart + loaded + [(("equal", ("cell", 0), o0), "no")])
+        self.built(book, "system", apart + first + loaded + [(("equal", ("cell", 0), o0), "no")])
+        # Nothing asks to which cell the address 0 comes.
+        self.built(book, "system", apart + [(("allowed", zero, "w"), "yes")] + loaded + [(("equal", ("cell", 0), o0), "no")])
 
     def near_question(self, draw, operands, known):
         """A question about few terms, so that equal ones come often."""

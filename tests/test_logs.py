@@ -4,9 +4,9 @@ import doctest
 import random
 import unittest
 
-from hosts import DOUBTED, MEANING, NO_STOP, host_of, machine_of, whole
+from hosts import DOUBTED, MEANING, NO_STOP, WornHost, host_of, machine_of, whole
 from samples import ODD, assert_new, going, made, one_book, one_meaning, some_specials, spoil, with_changes
-from test_host_drawn import RIGHT, drawn_choice, drawn_machine
+from drawnhosts import RIGHT, drawn_choice, drawn_machine
 from worldsalone.bare import Box
 from worldsalone.choices import can_do
 from worldsalone.errors import BadChoice, BadMachine, UnknownName, UnknownWorld
@@ -259,19 +259,7 @@ class Worlds(unittest.TestCase):
             replayed(host, Log(READING), 9)
         self.assertEqual((caught.exception.word, host.worlds()), ("meaning", []))
 
-        class Worn(Host):
-            """A host whose worlds can be stepped only a few times."""
-
-            left = 3
-
-            def do(self, choice):
-                """Refuses steps when they are used up."""
-                self.left -= choice[0] == "step"
-                if self.left < 0:
-                    raise BadChoice()
-                return Host.do(self, choice)
-
-        host = Worn(Box(MEANING, [[0] * 8 for _ in range(9)], some_specials(), {"tty": [], "net": []}), range(9), [])
+        host = WornHost(Box(MEANING, [[0] * 8 for _ in range(9)], some_specials(), {"tty": [], "net": []}), range(9), [])
         with self.assertRaises(BadChoice):
             replayed(host, Log(READING), 12)
         self.assertEqual((host.worlds(), host.machine(0).count()), ([0], 8))

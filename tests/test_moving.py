@@ -3,9 +3,9 @@
 import random
 import unittest
 
-from hosts import DOUBTED, MEANING, NO_STOP, host_of, machine_of, whole
+from hosts import DOUBTED, MEANING, NO_STOP, WornHost, host_of, machine_of, whole
 from samples import ODD, assert_new, some_specials, spoil
-from test_host_drawn import RIGHT, drawn_machine
+from drawnhosts import RIGHT, drawn_machine
 from worldsalone.bare import Box
 from worldsalone.choices import can_do
 from worldsalone.errors import BadChoice, BadMachine, UnknownWorld
@@ -188,19 +188,7 @@ class Refused(unittest.TestCase):
         self.assertEqual((whole(host), other.worlds()), (kept, []))
 
     def test_errors_of_steps_pass_through(self):
-        class Worn(Host):
-            """A host whose worlds can be stepped only a few times."""
-
-            left = 3
-
-            def do(self, choice):
-                """Refuses steps when they are used up."""
-                self.left -= choice[0] == "step"
-                if self.left < 0:
-                    raise BadChoice()
-                return Host.do(self, choice)
-
-        host = Worn(Box(MEANING, [[0] * 8 for _ in range(9)], some_specials(), {"tty": [], "net": []}), range(9), [])
+        host = WornHost(Box(MEANING, [[0] * 8 for _ in range(9)], some_specials(), {"tty": [], "net": []}), range(9), [])
         host.open_world(machine_of("inc"))
         with self.assertRaises(BadChoice):
             moved(host, 0, host_of(), 1, 0, 3)

@@ -3,10 +3,10 @@
 import random
 import unittest
 
-from hosts import BOOK, CODE, DOUBTED, ENTRIES, INSTRUCTIONS, MEANING, NO_STOP, both, box_of_frames, entries, host_of
+from hosts import CODE, DOUBTED, ENTRIES, INSTRUCTIONS, MEANING, NO_STOP, both, box_of_frames, entries, host_of
 from hosts import machine_of, stock_of, untrue, whole
 from samples import A, B, NAMES, ODD, T0, T1, T2, T3, assert_new, made, some_specials, spoil, with_changes
-from test_host_drawn import drawn_machine
+from drawnhosts import drawn_machine
 from worldsalone.bare import Box, box_of
 from worldsalone.books import Book
 from worldsalone.errors import BadMachine, NotThere, UnknownName, UnknownWorld
@@ -332,7 +332,7 @@ class Bare(unittest.TestCase):
     def test_only_what_is_asked_for_is_brought(self):
         for name, mapping, told in (
             ("nop", ALL, [1]), ("ld", ALL, [1, 2]), ("ld", {0: (1, "rwx")}, [1]), ("svc", ALL, [1]), (12, ALL, [1]),
-            ("ld", {}, []), ("ld", {1: (2, "rw")}, []), ("st", {0: (1, "x"), 1: (2, "r")}, [1]), ("late", ALL, [1]),
+            ("read", ALL, [1]), ("table", ALL, [1]), ("ld", {}, []), ("ld", {1: (2, "rw")}, []), ("st", {0: (1, "x"), 1: (2, "r")}, [1]), ("late", ALL, [1]),
         ):
             host = host_of(machine_of(name))
             self.check(host, mapping, [8, 9, 0, 0], 0)

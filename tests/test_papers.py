@@ -3,6 +3,7 @@
 import random
 import unittest
 
+from asking import MODES, NEXT, O0, O1, PC, ZERO
 from hosts import BOOK as RIGHT_BOOK
 from samples import A, B, ODD, T0, one_book
 from termmodel import Branch
@@ -13,9 +14,6 @@ from worldsalone.mappings import Mapping
 from worldsalone.papers import first_wrong, judge_papers
 from worldsalone.questions import answers
 
-ZERO, PC, NEXT = ("zero",), ("pc",), ("next",)
-O0, O1 = ("operand", 0), ("operand", 1)
-MODES = ("user", "system")
 RIGHT, IMPOSSIBLE = ("right",), ("impossible",)
 TRAP = (("trap", "oops"),)
 LOAD = one_book((("load", T0, A),), operands=1)

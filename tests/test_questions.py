@@ -4,6 +4,7 @@ import itertools
 import random
 import unittest
 
+from asking import MODES, NEXT, PC, ZERO, allowed, cell, equal, inc, plus, same
 from samples import A, B, C, NAMES, ODD, PORTS, PRIMITIVES, T0, TABLES, assert_new, made, one_book, one_meaning
 from samples import some_specials
 from worldsalone.books import Book
@@ -13,8 +14,6 @@ from worldsalone.mappings import Mapping
 from worldsalone.questions import answers, compared, stands
 from worldsalone.tables import translated
 
-ZERO, PC, NEXT = ("zero",), ("pc",), ("next",)
-MODES = ("user", "system")
 # Two in rows of tty and one of net in user rows, one of net in system rows; some inside ifs.
 USER = (("in", A, "tty"), ("if", A, (("if", B, (), (("in", T0, "net"),)),), (("in", B, "tty"),)))
 SYSTEM = (("if", A, (("in", A, "net"),), ()),)
@@ -24,36 +23,6 @@ BOOK = one_book(USER, SYSTEM)
 def op(i):
     """The term of an operand."""
     return ("operand", i)
-
-
-def inc(term):
-    """A term with a primitive of one argument."""
-    return ("prim", "inc", (term,))
-
-
-def plus(term, other):
-    """A term with a primitive of two arguments."""
-    return ("prim", "sum", (term, other))
-
-
-def equal(term, other, answer="yes"):
-    """A question, with an answer, whether two terms are equal."""
-    return (("equal", term, other), answer)
-
-
-def same(i, j, answer="yes"):
-    """A question, with an answer, whether two operands tell the same register."""
-    return (("same", i, j), answer)
-
-
-def allowed(term, right, answer="yes"):
-    """A question, with an answer, about a right."""
-    return (("allowed", term, right), answer)
-
-
-def cell(term, answer="further"):
-    """A question, with an answer, about a cell."""
-    return (("cell", term), answer)
 
 
 class Terms(unittest.TestCase):

@@ -5,7 +5,7 @@ import unittest
 
 from hosts import MEANING, host_of, machine_of, whole
 from samples import ODD, made, one_book, one_meaning, some_frames, some_specials, with_changes
-from test_host_drawn import RIGHT, drawn_machine
+from drawnhosts import RIGHT, drawn_machine
 from worldsalone.books import Book
 from worldsalone.errors import BadData, UnknownWorld
 from worldsalone.machines import SPECIALS, Machine

@@ -3,6 +3,7 @@
 import random
 import unittest
 
+from asking import MODES, NEXT, O0, O1, O2, PC, ZERO, allowed, cell, equal, inc
 from drawing import drawn_book, drawn_question
 from samples import A, B, C, ODD, T0, T1, T2, T3, one_book
 from termmodel import Branch
@@ -12,32 +13,9 @@ from worldsalone.mappings import Mapping
 from worldsalone.questions import answers, stands
 from worldsalone.walks import verdict
 
-ZERO, PC, NEXT = ("zero",), ("pc",), ("next",)
-O0, O1, O2 = ("operand", 0), ("operand", 1), ("operand", 2)
-MODES = ("user", "system")
 TRAP = (("trap", "oops"),)
 # What the walks need of three operands, where each tells a register of its own.
 APART = ((("same", 0, 1), "no"), (("same", 0, 2), "no"), (("same", 1, 2), "no"))
-
-
-def inc(term):
-    """A term with a primitive of one argument."""
-    return ("prim", "inc", (term,))
-
-
-def equal(term, other, answer="yes"):
-    """A question, with an answer, whether two terms are equal."""
-    return (("equal", term, other), answer)
-
-
-def allowed(term, right, answer="yes"):
-    """A question, with an answer, about a right."""
-    return (("allowed", term, right), answer)
-
-
-def cell(term, answer="further"):
-    """A question, with an answer, about a cell."""
-    return (("cell", term), answer)
 
 
 def may(term, right, answer="further"):

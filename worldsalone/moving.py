@@ -16,7 +16,6 @@ class Moving:
         self._other = other
         self._sent = {}
         self._sendings = []
-        self._is_over = False
 
     def due(self):
         """The ascending tuple of the numbers of the due frames."""
@@ -41,12 +40,11 @@ class Moving:
         sent = self.send(len(self.due()))
         number = self._other.open_world(self._host.machine(self._world))
         self._host.do(("close", self._world))
-        self._is_over = True
         return (number, sent)
 
     def _frames(self):
-        """The list of the frames of the world, which is refused if the move is over or the world was closed."""
-        if self._is_over or self._world not in self._host.worlds():
+        """The list of the frames of the world, which is refused behind its closing, be it by the end of the move."""
+        if self._world not in self._host.worlds():
             raise BadChoice()
         return self._host.machine(self._world).frames()
 

@@ -198,8 +198,7 @@ class WorldBox:
 
     def bare(self, mapping, registers, pc):
         """Carries out a bare step and returns its end."""
-        if self.special("mode") != 0:
-            self.set_special("mode", 0)
+        self.set_special("mode", 0)
         return inner_bare(self._host, self._world, mapping, registers, pc)
 
     def _machine(self):

@@ -8,7 +8,7 @@ from worldsalone.machines import SPECIALS
 
 # The members of a saved form behind its frames and seats, as they are called for machines.
 REST = ("registers", "pc", "specials", "is_out", "lines", "outs", "answers", "arrivals", "count")
-MEMBERS = 2 + len(REST)
+MEMBERS = 11
 FRAMES = 0
 SEATS = 1
 FIRST_OF_REST = 2

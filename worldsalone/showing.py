@@ -73,7 +73,8 @@ class Plan:
         """The tables of the primitives."""
         found = {}
         for name, args, told in self._facts.prims():
-            found.setdefault(name, {})[tuple([self._words[arg] for arg in args])] = self._words[told]
+            table = found.setdefault(name, {})
+            table[tuple([self._words[arg] for arg in args])] = self._words[told]
         return found
 
     def cells(self):

@@ -3,9 +3,9 @@
 import random
 import unittest
 
+from drawnhosts import drawn_choice, drawn_machine
 from hosts import BOOK, DOUBTED, HELP, MEANING, NO_STOP, host_of, machine_of, untrue, whole
 from samples import A, ODD, T0, assert_new, some_specials, with_changes
-from drawnhosts import drawn_choice, drawn_machine
 from worldsalone.bare import Box
 from worldsalone.books import Book
 from worldsalone.careful import careful_choice, careful_step, sound_list

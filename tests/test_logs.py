@@ -4,9 +4,9 @@ import doctest
 import random
 import unittest
 
+from drawnhosts import RIGHT, drawn_choice, drawn_machine
 from hosts import DOUBTED, MEANING, NO_STOP, WornHost, host_of, machine_of, whole
 from samples import ODD, assert_new, going, made, one_book, one_meaning, some_specials, spoil, with_changes
-from drawnhosts import RIGHT, drawn_choice, drawn_machine
 from worldsalone.bare import Box
 from worldsalone.choices import can_do
 from worldsalone.errors import BadChoice, BadMachine, UnknownName, UnknownWorld

@@ -3,9 +3,9 @@
 import random
 import unittest
 
+from drawnhosts import RIGHT, drawn_machine
 from hosts import DOUBTED, MEANING, NO_STOP, WornHost, host_of, machine_of, whole
 from samples import ODD, assert_new, some_specials, spoil
-from drawnhosts import RIGHT, drawn_machine
 from worldsalone.bare import Box
 from worldsalone.choices import can_do
 from worldsalone.errors import BadChoice, BadMachine, UnknownWorld

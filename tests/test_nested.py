@@ -3,10 +3,11 @@
 import random
 import unittest
 
+from drawnhosts import drawn_machine
 from hosts import CODE, DOUBTED, ENTRIES, INSTRUCTIONS, MEANING, NO_STOP, both, box_of_frames, entries, host_of
 from hosts import machine_of, stock_of, untrue, whole
+from nestedmodel import Prediction
 from samples import A, B, NAMES, ODD, T0, T1, T2, T3, assert_new, made, some_specials, spoil, with_changes
-from drawnhosts import drawn_machine
 from worldsalone.bare import Box, box_of
 from worldsalone.books import Book
 from worldsalone.errors import BadMachine, NotThere, UnknownName, UnknownWorld
@@ -266,7 +267,9 @@ class Bare(unittest.TestCase):
         others = [(v, host.machine(v), host.counts(v)) for v in host.worlds() if v != w]
         counts, log, lower = host.counts(w), host.log(), host.box().specials()
         given, passed = dict(mapping), list(registers)
+        predicted = Prediction(host, w, mapping, registers, pc)
         end = box.bare(given, passed, pc)
+        self.compare(host, w, predicted)
         self.assertEqual(end, plain.bare(mapping, registers, pc))
         self.assertEqual((given, passed), (dict(mapping), list(registers)))
         taken = {port: len(box_of(machine).answers()[port]) - len(plain.answers()[port]) for port in plain.answers()}
@@ -279,6 +282,19 @@ class Bare(unittest.TestCase):
         self.assertEqual([(v, host.machine(v), host.counts(v)) for v in host.worlds() if v != w], others)
         self.assertIsNone(untrue(host))
         return end
+
+    def compare(self, host, w, predicted):
+        """Compares where all frames lie with what the words of S8.3 tell."""
+        model, stock = predicted.model, stock_of(host)
+        self.assertEqual((stock.free(), stock.full()), (model.free(), model.full), predicted.ways)
+        for v in stock.worlds():
+            self.assertEqual([stock.where(v, k) for k in range(stock.many(v))], [model.where((v, k)) for k in range(stock.many(v))])
+            self.assertEqual([stock.where(v, ("copy", k)) for k in stock.copies(v)], [model.where((v, ("copy", k))) for k in stock.copies(v)])
+        self.assertEqual(set(host.copies(w).copied() + host.copies(w).closed()), predicted.patched)
+        self.seen[predicted.ways] = self.seen.get(predicted.ways, 0) + 1
+
+    def setUp(self):
+        self.seen = {}
 
     def test_each_instruction(self):
         for name, told in INSTRUCTIONS.items():
@@ -483,7 +499,7 @@ class Bare(unittest.TestCase):
             host = Host(box_of_frames(meaning=meaning), frames, draw.choice((DOUBTED, ["inc", "st"], [])))
             for _ in range(draw.choice((1, 2))):
                 machine = drawn_machine(draw, meaning)
-                words = [[draw.choice((word, draw.choice(sorted(CODE)))) for word in frame] for frame in machine.frames()]
+                words = [[draw.choice((word, draw.choice(sorted(CODE)), draw.choice((14, 29, 19, 31)))) for word in frame] for frame in machine.frames()]
                 host.open_world(with_changes(machine, frames=[machine.frames()[0]] + words[1:], answers={
                     "tty": [(machine.count(), draw.randrange(32)) for _ in range(draw.randrange(3))] + [(99, 1)], "net": []}))
             for _ in range(12):
@@ -499,6 +515,7 @@ class Bare(unittest.TestCase):
                 end = self.check(host, mapping, registers, draw.choice((0, 8, draw.randrange(32))))
                 ends[end[0]] = ends.get(end[0], 0) + 1
         self.assertTrue(len(ends) == 4 and min(ends.values()) > 50, ends)
+        self.assertGreater(min(self.seen.values()), 250, self.seen)
 
 
 class Together(unittest.TestCase):

@@ -3,9 +3,9 @@
 import random
 import unittest
 
+from drawnhosts import RIGHT, RIGHT_NO_STOP, drawn_choice, drawn_machine
 from hosts import box_of_frames, entries, host_of, machine_of, stepped, untrue
 from samples import some_specials
-from drawnhosts import RIGHT, RIGHT_NO_STOP, drawn_choice, drawn_machine
 from worldsalone.bare import Box
 from worldsalone.careful import careful_step
 from worldsalone.choices import can_do

@@ -3,9 +3,9 @@
 import random
 import unittest
 
+from drawnhosts import RIGHT, drawn_machine
 from hosts import MEANING, host_of, machine_of, whole
 from samples import ODD, made, one_book, one_meaning, some_frames, some_specials, with_changes
-from drawnhosts import RIGHT, drawn_machine
 from worldsalone.books import Book
 from worldsalone.errors import BadData, UnknownWorld
 from worldsalone.machines import SPECIALS, Machine

@@ -4,9 +4,9 @@ import copy
 import random
 import unittest
 
+from drawnhosts import RIGHT, drawn_machine
 from hosts import BOOK, CODE, DOUBTED, ENTRIES, INSTRUCTIONS, MEANING, TABLES, box_of_frames, host_of, machine_of, stepped
 from samples import NAMES, assert_new, mutable_parts, some_specials, spoil, with_changes
-from drawnhosts import RIGHT, drawn_machine
 from worldsalone import errors
 from worldsalone.bare import Box, box_of
 from worldsalone.books import Book

@@ -19,12 +19,12 @@ class Moving:
 
     def due(self):
         """The ascending tuple of the numbers of the due frames."""
-        frames = self._frames()
+        frames = self._open_frames()
         return tuple([k for k, words in enumerate(frames) if self._sent.get(k, None) != words])
 
     def send(self, many):
         """Sends so many due frames, or all if there are not so many, and returns the tuple of their numbers."""
-        frames = self._frames()
+        frames = self._open_frames()
         sent = self.due()[:many]
         for k in sent:
             self._sent[k] = frames[k]
@@ -42,7 +42,7 @@ class Moving:
         self._host.do(("close", self._world))
         return (number, sent)
 
-    def _frames(self):
+    def _open_frames(self):
         """The list of the frames of the world, which is refused behind its closing, be it by the end of the move."""
         if self._world not in self._host.worlds():
             raise BadChoice()

@@ -152,19 +152,19 @@ class WorldBox:
 
     def frames(self):
         """The list of the frames of the world, each a list of words."""
-        return self._machine().frames()
+        return self._world_machine().frames()
 
     def specials(self):
         """The dict from the names of the specials of the world to their words."""
-        return self._machine().specials()
+        return self._world_machine().specials()
 
     def answers(self):
         """The dict from the ports to the lists of the words that the world could take in its next step."""
-        return ready_answers(self._machine())
+        return ready_answers(self._world_machine())
 
     def outs(self):
         """The dict from the ports to the lists of words that the world put out there."""
-        return self._machine().outs()
+        return self._world_machine().outs()
 
     def peek(self, frame, place):
         """The word at a place of a frame."""
@@ -190,18 +190,18 @@ class WorldBox:
         if word != present:
             specials = self.specials()
             specials[name] = word
-            self._host.take_over(self._world, with_part(self._machine(), "specials", specials))
+            self._host.take_over(self._world, with_part(self._world_machine(), "specials", specials))
 
     def give(self, port, word):
         """Gives the world an answer at its present count."""
-        self._host.take_over(self._world, answered(self._machine(), port, word))
+        self._host.take_over(self._world, answered(self._world_machine(), port, word))
 
     def bare(self, mapping, registers, pc):
         """Carries out a bare step and returns its end."""
         self.set_special("mode", 0)
         return inner_bare(self._host, self._world, mapping, registers, pc)
 
-    def _machine(self):
+    def _world_machine(self):
         """The machine of the world."""
         return self._host.machine(self._world)
 

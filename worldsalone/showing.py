@@ -179,7 +179,7 @@ def start_at(facts):
     plan = Plan(facts)
     setting = facts.setting()
     told, registers = registers_of(facts, plan)
-    code = {plan.word(("cell", 0)): (setting.name(), told)}
+    code = {plan.word(("cell", 0)): (setting.instruction(), told)}
     meaning = Meaning(setting.book(), plan.places(), plan.pages(), plan.tables(), plan.entries(), code)
     given = answers_of(facts, plan, "world")
     answers = {port: [(0, word) for word in given[port]] for port in given}

@@ -56,7 +56,7 @@ class Setting:
         """The book."""
         return self._book
 
-    def name(self):
+    def instruction(self):
         """The name of the instruction."""
         return self._name
 

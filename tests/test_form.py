@@ -225,6 +225,8 @@ class Files(unittest.TestCase):
             self.assertTrue(ast.get_docstring(tree), name)
             for row in tree.body[1:]:
                 self.assertIsInstance(row, (ast.ImportFrom, ast.FunctionDef, ast.ClassDef, ast.Assign), name)
+                if isinstance(row, ast.Assign):
+                    self.assertFalse([node for node in ast.walk(row) if isinstance(node, ast.Call)], (name, row.lineno))
             top = bound_at_top(tree)
             self.assertEqual(len(top), len(set(top)), name)
             for node in ast.walk(tree):

@@ -14,6 +14,7 @@ from worldsalone.deciding import is_right
 from worldsalone.errors import UnknownWorld
 from worldsalone.host import Host
 from worldsalone.machines import Machine
+from worldsalone.meanings import Meaning
 from worldsalone.worlds import alone, alone_told
 
 OUT = (("out", "tty", A),)
@@ -215,7 +216,7 @@ class Drawn(unittest.TestCase):
             entries = [(f"i{k}", 1, draw.choice(rows), draw.choice(rows)) for k in range(8)]
             book = Book(4, [("inc", 1)], ["help", "oops"], ["tty", "net"], entries)
             code = {word: (f"i{word % 8}", (word % 4,)) for word in range(12, 32)}
-            meaning = type(MEANING)(book, 8, 4, {}, {k: MEANING.entry(k) for k in range(1, 8)}, code)
+            meaning = Meaning(book, 8, 4, {}, {k: MEANING.entry(k) for k in range(1, 8)}, code)
             host = Host(Box(meaning, [[30] * 8 for _ in range(9)], some_specials(), {"tty": [5, 6], "net": []}), range(7), sound_list(book))
             frames = [[draw.choice((1, 2, 3, 4, 5, 7)) for _ in range(8)]] + [[draw.randrange(32) for _ in range(8)] for _ in range(6)]
             specials = some_specials(mode=draw.choice((0, 1)), handler=draw.randrange(32))
